@@ -1,0 +1,1 @@
+"""Programs of a small 32-bit processor, run and shown."""
