@@ -1,9 +1,10 @@
 """The calls of the program."""
 
-from lesserchip.bits import instruction_at, is_first_half
+from lesserchip.bits import instruction_at, is_first_half, length_of
 from lesserchip.doing import do_instruction
 from lesserchip.machine import AT_SVC, BEYOND_MEMORY, PC, SIZE, SP, STEPS_DONE
-from lesserchip.machine import Machine, changes_of, half_at, state_of
+from lesserchip.machine import Machine, changes_of, half_at, memory_of, state_of
+from lesserchip.text import half_text, instruction_text
 
 MOST_STEPS = 16777216
 
@@ -54,3 +55,17 @@ def instruction_now(memory, place, known):
     if not is_first_half(half):
         known[half] = instruction
     return instruction
+
+
+def show(at, places, data):
+    if at % 2 != 0 or at + 2 > SIZE:
+        return [-1]
+    memory = memory_of(places, data)
+    instruction = instruction_at(memory, at)
+    if instruction[0] == "none":
+        return [2] + bytes_of_text(half_text(half_at(memory, at)))
+    return [length_of(instruction)] + bytes_of_text(instruction_text(instruction, at))
+
+
+def bytes_of_text(text):
+    return [ord(sign) for sign in text]

@@ -1,8 +1,8 @@
-"""What the tests share: bits written as the document writes them, and a step checked whole."""
+"""What the tests share: bits written as the document writes them, a step checked whole, and a text shown."""
 
 import unittest
 
-from lesserchip.core import run
+from lesserchip.core import run, show
 
 START = 0x100
 LETTERS = (("N", 8), ("Z", 4), ("C", 2), ("V", 1))
@@ -77,6 +77,60 @@ def lowest_bytes(place, number, size):
     return dict((place + k, byte) for k, byte in enumerate(bytes_of(number, size)))
 
 
+def always(f):
+    return True
+
+
+# A row of the table of instructions each: its bits, and what it doesn't have.
+ROWS = (
+    ("000 oo iiiii mmm ddd", lambda f: f["o"] <= 2),
+    ("000110 S mmm nnn ddd", always),
+    ("000111 S iii nnn ddd", always),
+    ("001 oo ddd iiiiiiii", always),
+    ("010000 oooo mmm ddd", always),
+    ("010001 00 D mmmm ddd", lambda f: (f["D"], f["d"], f["m"]) != (1, 7, 15)),
+    ("010001 01 D mmmm ddd", lambda f: (f["D"] or f["m"] >= 8) and f["m"] != 15 and (f["D"], f["d"]) != (1, 7)),
+    ("010001 10 D mmmm ddd", always),
+    ("010001 11 L mmmm 000", lambda f: f["m"] != 15),
+    ("01001 ttt iiiiiiii", always),
+    ("0101 ooo mmm nnn ttt", always),
+    ("0110 L iiiii nnn ttt", always),
+    ("0111 L iiiii nnn ttt", always),
+    ("1000 L iiiii nnn ttt", always),
+    ("1001 L ttt iiiiiiii", always),
+    ("1010 S ddd iiiiiiii", always),
+    ("10110000 S iiiiiii", always),
+    ("10110010 oo mmm ddd", always),
+    ("1011010 L llllllll", lambda f: f["L"] or f["l"]),
+    ("1011110 L llllllll", lambda f: f["L"] or f["l"]),
+    ("10111010 oo mmm ddd", lambda f: f["o"] != 2),
+    ("10111110 iiiiiiii", always),
+    ("10111111 oooo 0000", always),
+    ("1100 L nnn llllllll", lambda f: f["l"] and (f["L"] or not f["l"] >> f["n"] & 1 or not f["l"] % (1 << f["n"]))),
+    ("1101 cccc iiiiiiii", lambda f: f["c"] <= 13),
+    ("11011111 iiiiiiii", always),
+    ("11100 iiiiiiiiiii", always),
+)
+
+
+def is_instruction(half):
+    for row, has in ROWS:
+        fields = fields_of(row, half)
+        if fields is not None and has(fields):
+            return True
+    return False
+
+
+class Fixed(list):
+    """A list that fails when it's changed, be it for a while."""
+
+    def refuse(self, *given):
+        raise AssertionError("what was handed in is changed")
+
+    append = extend = insert = pop = remove = clear = sort = reverse = refuse
+    __setitem__ = __delitem__ = __iadd__ = __imul__ = refuse
+
+
 class Outcome:
     """What run answered, in parts."""
 
@@ -136,3 +190,28 @@ class ChipCase(unittest.TestCase):
         self.assertEqual(outcome.regs, registers(regs, at), told)
         self.assertEqual(outcome.flags, flags(flag), told)
         self.assertEqual(outcome.changes, {}, told)
+
+    def show_answer(self, at, places, data):
+        """What show answers, once it's seen that it has the form it must have and changed nothing it was given."""
+        handed = (list(places), list(data))
+        answer = show(at, places, data)
+        self.assertEqual((places, data), handed)
+        self.assertIs(type(answer), list)
+        self.assertTrue(all(type(number) is int for number in answer), answer)
+        if answer[0] == -1:
+            self.assertEqual(answer, [-1])
+        else:
+            self.assertIn(answer[0], (2, 4))
+            self.assertTrue(all(32 <= number <= 126 for number in answer[1:]), answer)
+        return answer
+
+    def shown(self, half, at=START):
+        """How many bytes an instruction at a place takes, and its text."""
+        memory = program(half if isinstance(half, list) else [half], at)
+        answer = self.show_answer(at, list(memory), list(memory.values()))
+        return answer[0], bytes(answer[1:]).decode("ascii")
+
+    def text(self, half, wanted, at=START):
+        """See that an instruction has a text, and takes as many bytes as it has."""
+        length = 2 * len(half) if isinstance(half, list) else 2
+        self.assertEqual(self.shown(half, at), (length, wanted))

@@ -107,6 +107,9 @@ class Language(unittest.TestCase):
                 if isinstance(node, ast.Constant):
                     self.assertIn(type(node.value), (int, str, bool, type(None)), name)
                     self.assertNotIn("%", str(node.value), name)
+                if isinstance(node, ast.FormattedValue):
+                    self.assertIsInstance(node.value, ast.Name, name)
+                    self.assertIsNone(node.format_spec, name)
                 if isinstance(node, ast.arguments):
                     self.assertEqual((node.vararg, node.kwarg, node.kwonlyargs, node.posonlyargs), (None, None, [], []))
 

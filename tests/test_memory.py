@@ -2,7 +2,7 @@
 
 import unittest
 
-from chip import START, ChipCase, registers, words
+from chip import START, ChipCase, Fixed, registers, words
 from lesserchip.core import run
 
 STRB_R1_R0 = 0x7001
@@ -86,16 +86,6 @@ class Told(ChipCase):
 
     def test_a_refused_run_tells_no_bytes(self):
         self.assertEqual(len(self.answer(-1, registers(None) + [0, 0], [0], [1])), 19)
-
-
-class Fixed(list):
-    """A list that fails when it's changed, be it for a while."""
-
-    def refuse(self, *given):
-        raise AssertionError("what was handed in is changed")
-
-    append = extend = insert = pop = remove = clear = sort = reverse = refuse
-    __setitem__ = __delitem__ = __iadd__ = __imul__ = refuse
 
 
 class NotChanged(ChipCase):

@@ -2,51 +2,7 @@
 
 import unittest
 
-from chip import START, ChipCase, Outcome, bits, fields_of, program, registers
-
-
-def always(f):
-    return True
-
-
-# A row of the table of instructions each: its bits, and what it doesn't have.
-ROWS = (
-    ("000 oo iiiii mmm ddd", lambda f: f["o"] <= 2),
-    ("000110 S mmm nnn ddd", always),
-    ("000111 S iii nnn ddd", always),
-    ("001 oo ddd iiiiiiii", always),
-    ("010000 oooo mmm ddd", always),
-    ("010001 00 D mmmm ddd", lambda f: (f["D"], f["d"], f["m"]) != (1, 7, 15)),
-    ("010001 01 D mmmm ddd", lambda f: (f["D"] or f["m"] >= 8) and f["m"] != 15 and (f["D"], f["d"]) != (1, 7)),
-    ("010001 10 D mmmm ddd", always),
-    ("010001 11 L mmmm 000", lambda f: f["m"] != 15),
-    ("01001 ttt iiiiiiii", always),
-    ("0101 ooo mmm nnn ttt", always),
-    ("0110 L iiiii nnn ttt", always),
-    ("0111 L iiiii nnn ttt", always),
-    ("1000 L iiiii nnn ttt", always),
-    ("1001 L ttt iiiiiiii", always),
-    ("1010 S ddd iiiiiiii", always),
-    ("10110000 S iiiiiii", always),
-    ("10110010 oo mmm ddd", always),
-    ("1011010 L llllllll", lambda f: f["L"] or f["l"]),
-    ("1011110 L llllllll", lambda f: f["L"] or f["l"]),
-    ("10111010 oo mmm ddd", lambda f: f["o"] != 2),
-    ("10111110 iiiiiiii", always),
-    ("10111111 oooo 0000", always),
-    ("1100 L nnn llllllll", lambda f: f["l"] and (f["L"] or not f["l"] >> f["n"] & 1 or not f["l"] % (1 << f["n"]))),
-    ("1101 cccc iiiiiiii", lambda f: f["c"] <= 13),
-    ("11011111 iiiiiiii", always),
-    ("11100 iiiiiiiiiii", always),
-)
-
-
-def is_instruction(half):
-    for row, has in ROWS:
-        fields = fields_of(row, half)
-        if fields is not None and has(fields):
-            return True
-    return False
+from chip import START, ChipCase, Outcome, bits, fields_of, is_instruction, program, registers
 
 
 class Gaps(ChipCase):
